@@ -32,11 +32,13 @@ func ValidBases(bases [][]int) bool {
 
 // canBeBases reports whether a list can be the bases of the class c, which is not the root.
 func canBeBases(list []int, c int) bool {
-	if len(list) == 0 || !isList(list, MaxBases) {
-		return false
-	}
-	for _, b := range list {
-		if b < 0 || b >= c {
+	return len(list) > 0 && isList(list, MaxBases) && areUpTo(list, c-1)
+}
+
+// areUpTo reports whether all numbers of a list are in 0..most.
+func areUpTo(list []int, most int) bool {
+	for _, n := range list {
+		if n < 0 || n > most {
 			return false
 		}
 	}
@@ -239,6 +241,12 @@ func indicesOf(marks []bool) []int {
 		}
 	}
 	return list
+}
+
+// isBelow reports whether the class a is below the class b, or is this class itself.
+// A number that is no class is below nothing, and nothing is below it.
+func isBelow(bases [][]int, a int, b int) bool {
+	return slices.Contains(AboveOf(bases, a), b)
 }
 
 // DepthFirst returns classes in the order of a walk, where they are met first.
