@@ -35,10 +35,15 @@ func canBeBases(list []int, c int) bool {
 	return len(list) > 0 && isList(list, MaxBases) && areUpTo(list, c-1)
 }
 
+// isUpTo reports whether a number is in 0..most.
+func isUpTo(n int, most int) bool {
+	return n >= 0 && n <= most
+}
+
 // areUpTo reports whether all numbers of a list are in 0..most.
 func areUpTo(list []int, most int) bool {
 	for _, n := range list {
-		if n < 0 || n > most {
+		if !isUpTo(n, most) {
 			return false
 		}
 	}
