@@ -226,24 +226,13 @@ func randomChanges(r *rand.Rand) []impl.Op {
 	return list
 }
 
-// shortChanges calls a function for all lists of at most some of the changes.
-func shortChanges(kinds, list []impl.Op, most int, visit func([]impl.Op)) {
-	visit(list)
-	if len(list) == most {
-		return
-	}
-	for _, o := range kinds {
-		shortChanges(kinds, append(slices.Clone(list), o), most, visit)
-	}
-}
-
 // forChanges calls a function for many valid changes: all short lists of a few, those same behind full keys, and longer ones made by a fixed rule.
 func forChanges(t *testing.T, visit func([]impl.Op)) {
 	t.Helper()
 	kinds := changes(set(0, 4, 11), set(0, 4, 12), set(0, 7, 13), set(1, 7, 14), gone(0, 4), gone(0, 7), gone(1, 7))
-	shortChanges(kinds, nil, 4, visit)
+	shortLists(kinds, nil, 4, visit)
 	full := changes(set(0, 0, 1), set(1, 1, 2), set(0, 2, 3), set(0, 7, 0), set(2, 3, 99))
-	shortChanges(kinds, full, len(full)+3, visit)
+	shortLists(kinds, full, len(full)+3, visit)
 	r := source(30)
 	for range 3000 {
 		visit(randomChanges(r))

@@ -84,6 +84,17 @@ func choices(list []int, least, most int) [][]int {
 	return out
 }
 
+// shortLists calls a function for all lists that begin with the given one, and then have some of the kinds, up to a length.
+func shortLists[T any](kinds, list []T, most int, visit func([]T)) {
+	visit(list)
+	if len(list) == most {
+		return
+	}
+	for _, x := range kinds {
+		shortLists(kinds, append(slices.Clone(list), x), most, visit)
+	}
+}
+
 // union returns all numbers of lists, each once, ascending.
 func union(lists [][]int) []int {
 	all := slices.Concat(lists...)
